@@ -1,0 +1,1 @@
+"""Least-cost blending with bounds on the mean property."""

@@ -1,0 +1,145 @@
+"""Least-cost blending with bounds on the mean property.
+
+A blend is kept as a denominator and a list of whole numbers over it, so that
+every sum and every comparison is exact.
+"""
+
+# An error is answered as its code below 0.
+OUTSIDE_LIMITS = 22
+NOT_FEASIBLE = 33
+
+MOST_QUANTITY = 99
+MOST_BOUND = 99
+MOST_COMPONENTS = 4
+# The greatest available amount, cost and property of a component.
+MOST_OF_COMPONENT = (50, 99, 99)
+
+
+def cheapest_blend(quantity, low, high, components):
+    """Answer 0, the cost of the cheapest blend and its amounts, or an error."""
+    if not request_within_limits(quantity, low, high, components):
+        return [-OUTSIDE_LIMITS]
+    costs = components[1::3]
+    best = None
+    for den, blend in basic_candidates(quantity, low, high, components):
+        if is_feasible(quantity, low, high, den, components, blend):
+            ranked = (den, [weighted_sum(blend, costs)] + blend)
+            if best is None or comes_before(ranked, best):
+                best = ranked
+    if best is None:
+        return [-NOT_FEASIBLE]
+    return [0] + rational_numbers(best[0], best[1])
+
+
+def request_within_limits(quantity, low, high, components):
+    """Tell whether the arguments that every operation looks at first are valid."""
+    if not within(quantity, MOST_QUANTITY):
+        return False
+    if not within(low, MOST_BOUND) or not within(high, MOST_BOUND) or low > high:
+        return False
+    return components_within_limits(components)
+
+
+def components_within_limits(components):
+    """Tell whether the list holds whole components, not too many, each valid."""
+    if len(components) % 3 != 0 or len(components) > 3 * MOST_COMPONENTS:
+        return False
+    return all([within(number, MOST_OF_COMPONENT[place % 3]) for place, number in enumerate(components)])
+
+
+def within(number, most):
+    """Tell whether a number lies from 0 to the greatest one allowed."""
+    return 0 <= number <= most
+
+
+def is_feasible(quantity, low, high, den, components, blend):
+    """Tell whether the amounts blend / den are a feasible blend."""
+    available = components[0::3]
+    if not all([within(amount, den * most) for amount, most in zip(blend, available)]):
+        return False
+    if sum(blend) != den * quantity:
+        return False
+    total = weighted_sum(blend, components[2::3])
+    return den * low * quantity <= total <= den * high * quantity
+
+
+def basic_candidates(quantity, low, high, components):
+    """List all that has the form of a basic blend, feasible or not, as pairs of den and blend."""
+    properties = components[2::3]
+    candidates = []
+    for corner in corners(components[0::3]):
+        candidates.append((1, corner))
+        candidates.extend(one_made_up(quantity, corner))
+        for bound in (low, high):
+            candidates.extend(two_made_up(quantity, bound * quantity, corner, properties))
+    return candidates
+
+
+def corners(available):
+    """List the blends in which every amount is 0 or the available one."""
+    found = [[]]
+    for most in available:
+        found = [blend + [0] for blend in found] + [blend + [most] for blend in found]
+    return found
+
+
+def one_made_up(quantity, corner):
+    """Let each component that the corner leaves out make up the quantity in its turn.
+
+    Those that the corner holds need no turn: another corner leaves them out.
+    """
+    missing = quantity - sum(corner)
+    candidates = []
+    for place, amount in enumerate(corner):
+        if amount == 0:
+            candidates.append((1, corner[:place] + [missing] + corner[place + 1:]))
+    return candidates
+
+
+def two_made_up(quantity, total, corner, properties):
+    """Let each two components left out make up the quantity and the property total.
+
+    Only the order with the smaller property first is taken, so that the
+    denominator, the difference of the two properties, is above 0.
+    """
+    missing = quantity - sum(corner)
+    missing_total = total - weighted_sum(corner, properties)
+    left_out = [place for place, amount in enumerate(corner) if amount == 0]
+    candidates = []
+    for first in left_out:
+        for second in left_out:
+            den = properties[second] - properties[first]
+            if den > 0:
+                blend = [den * amount for amount in corner]
+                blend[first] = properties[second] * missing - missing_total
+                blend[second] = missing_total - properties[first] * missing
+                candidates.append((den, blend))
+    return candidates
+
+
+def comes_before(ranked, other):
+    """Tell whether the cost, or at the same cost the first differing amount, is smaller."""
+    return [number * other[0] for number in ranked[1]] < [number * ranked[0] for number in other[1]]
+
+
+def weighted_sum(amounts, weights):
+    """Sum up amount times weight."""
+    return sum([amount * weight for amount, weight in zip(amounts, weights)])
+
+
+def rational_numbers(den, numbers):
+    """Give each of the numbers over den as numerator and denominator in lowest terms."""
+    answer = []
+    for number in numbers:
+        divisor = common_divisor(number, den)
+        answer.extend([number // divisor, den // divisor])
+    return answer
+
+
+def common_divisor(first, second):
+    """Give the greatest common divisor; of 0 and a number that number, so that 0 becomes 0, 1."""
+    while second != 0:
+        rest = first % second
+        first = second
+        second = rest
+    return first

@@ -1,0 +1,96 @@
+"""The document's words, written a second time with fractions and without haste."""
+
+from fractions import Fraction
+from itertools import combinations, product
+
+
+def triples(components):
+    return [tuple(components[k:k + 3]) for k in range(0, len(components), 3)]
+
+
+def cost_of(amounts, components):
+    return sum((x * c for x, (_, c, _) in zip(amounts, triples(components))), Fraction(0))
+
+
+def property_total_of(amounts, components):
+    return sum((x * a for x, (_, _, a) in zip(amounts, triples(components))), Fraction(0))
+
+
+def feasible(quantity, low, high, components, amounts):
+    parts = triples(components)
+    return (
+        all(0 <= x <= most for x, (most, _, _) in zip(amounts, parts))
+        and sum(amounts) == quantity
+        and low * quantity <= property_total_of(amounts, components) <= high * quantity
+    )
+
+
+def basic_blends(quantity, low, high, components):
+    """Every feasible blend of the three forms, each form filled in by itself."""
+    parts = triples(components)
+    places = range(len(parts))
+    found = set()
+
+    def settle(free, solve):
+        rest = [p for p in places if p not in free]
+        for choice in product(*[(0, parts[p][0]) for p in rest]):
+            amounts = [Fraction(0)] * len(parts)
+            for p, amount in zip(rest, choice):
+                amounts[p] = Fraction(amount)
+            for p, amount in zip(free, solve(amounts)):
+                amounts[p] = amount
+            if feasible(quantity, low, high, components, amounts):
+                found.add(tuple(amounts))
+
+    settle((), lambda amounts: [])
+    for p in places:
+        settle((p,), lambda amounts: [quantity - sum(amounts)])
+    for p, q in combinations(places, 2):
+        a, b = parts[p][2], parts[q][2]
+        if a == b:
+            continue
+        for bound in (low, high):
+            def solve(amounts):
+                missing = quantity - sum(amounts)
+                total = bound * quantity - property_total_of(amounts, components)
+                second = Fraction(total - a * missing, b - a)
+                return [missing - second, second]
+            settle((p, q), solve)
+    return found
+
+
+def cheapest(quantity, low, high, components):
+    """What cheapest_blend is to answer to arguments within their limits."""
+    found = basic_blends(quantity, low, high, components)
+    if not found:
+        return [-33]
+    best = min(found, key=lambda amounts: (cost_of(amounts, components), amounts))
+    return [0] + pairs([cost_of(best, components)] + list(best))
+
+
+def checked(quantity, low, high, den, components, blend):
+    """What check_blend is to answer to arguments within their limits."""
+    amounts = [Fraction(x, den) for x in blend]
+    answer = [1 if feasible(quantity, low, high, components, amounts) else 0]
+    return answer + pairs([cost_of(amounts, components), property_total_of(amounts, components)])
+
+
+def pairs(numbers):
+    answer = []
+    for number in numbers:
+        answer += [Fraction(number).numerator, Fraction(number).denominator]
+    return answer
+
+
+def as_fractions(numbers):
+    return [Fraction(numbers[k], numbers[k + 1]) for k in range(0, len(numbers), 2)]
+
+
+def extreme_property_total(quantity, components, greatest):
+    """Smallest or greatest property total of a choice that adds up, or None if too little is there."""
+    total, missing = 0, quantity
+    for most, _, a in sorted(triples(components), key=lambda part: part[2], reverse=greatest):
+        taken = min(most, missing)
+        total += taken * a
+        missing -= taken
+    return total if missing == 0 else None
