@@ -13,6 +13,8 @@ MOST_BOUND = 99
 MOST_COMPONENTS = 4
 # The greatest available amount, cost and property of a component.
 MOST_OF_COMPONENT = (50, 99, 99)
+MOST_DEN = 99
+MOST_IN_BLEND = 9999
 
 
 def cheapest_blend(quantity, low, high, components):
@@ -31,6 +33,18 @@ def cheapest_blend(quantity, low, high, components):
     return [0] + rational_numbers(best[0], best[1])
 
 
+def check_blend(quantity, low, high, den, components, blend):
+    """Answer whether the blend is feasible, its cost and its property total, or an error."""
+    if not request_within_limits(quantity, low, high, components):
+        return [-OUTSIDE_LIMITS]
+    if not blend_within_limits(den, components, blend):
+        return [-OUTSIDE_LIMITS]
+    feasible = 1 if is_feasible(quantity, low, high, den, components, blend) else 0
+    cost = weighted_sum(blend, components[1::3])
+    property_total = weighted_sum(blend, components[2::3])
+    return [feasible] + rational_numbers(den, [cost, property_total])
+
+
 def request_within_limits(quantity, low, high, components):
     """Tell whether the arguments that every operation looks at first are valid."""
     if not within(quantity, MOST_QUANTITY):
@@ -45,6 +59,15 @@ def components_within_limits(components):
     if len(components) % 3 != 0 or len(components) > 3 * MOST_COMPONENTS:
         return False
     return all([within(number, MOST_OF_COMPONENT[place % 3]) for place, number in enumerate(components)])
+
+
+def blend_within_limits(den, components, blend):
+    """Tell whether den and the blend, one amount for each of the valid components, are valid."""
+    if den == 0 or not within(den, MOST_DEN):
+        return False
+    if 3 * len(blend) != len(components):
+        return False
+    return all([within(amount, MOST_IN_BLEND) for amount in blend])
 
 
 def within(number, most):
