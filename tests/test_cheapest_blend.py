@@ -85,6 +85,12 @@ class FormsOfBasicBlends(unittest.TestCase):
             [0, 26, 3, 2, 1, 8, 3, 1, 3],
         )
 
+    def test_two_make_up_the_quantity_with_properties_next_to_each_other(self):
+        # All of the free one; the other 3 units have 1 * x + 2 * (3 - x) = 5.
+        self.assertEqual(cheapest_blend(4, 3, 9, [1, 0, 7, 9, 1, 1, 9, 5, 2]), [0, 11, 1, 1, 1, 1, 1, 2, 1])
+        # All of the free one; the other 4 units have 4 * x + 3 * (4 - x) = 14.
+        self.assertEqual(cheapest_blend(5, 0, 3, [9, 1, 4, 9, 5, 3, 1, 0, 1]), [0, 12, 1, 2, 1, 2, 1, 1, 1])
+
 
 class EqualCosts(unittest.TestCase):
     def test_same_components(self):
