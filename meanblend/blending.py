@@ -15,19 +15,15 @@ MOST_COMPONENTS = 4
 MOST_OF_COMPONENT = (50, 99, 99)
 MOST_DEN = 99
 MOST_IN_BLEND = 9999
+# The unit price may lie as far below 0 as above it, the two others not below.
+MOST_PRICE = 999
 
 
 def cheapest_blend(quantity, low, high, components):
     """Answer 0, the cost of the cheapest blend and its amounts, or an error."""
     if not request_within_limits(quantity, low, high, components):
         return [-OUTSIDE_LIMITS]
-    costs = components[1::3]
-    best = None
-    for den, blend in basic_candidates(quantity, low, high, components):
-        if is_feasible(quantity, low, high, den, components, blend):
-            ranked = (den, [weighted_sum(blend, costs)] + blend)
-            if best is None or comes_before(ranked, best):
-                best = ranked
+    best = best_candidate(quantity, low, high, components)
     if best is None:
         return [-NOT_FEASIBLE]
     return [0] + rational_numbers(best[0], best[1])
@@ -43,6 +39,18 @@ def check_blend(quantity, low, high, den, components, blend):
     cost = weighted_sum(blend, components[1::3])
     property_total = weighted_sum(blend, components[2::3])
     return [feasible] + rational_numbers(den, [cost, property_total])
+
+
+def dual_bound(quantity, low, high, components, prices):
+    """Answer whether the dual bound is the cost of the cheapest blend, and the bound, or an error."""
+    if not request_within_limits(quantity, low, high, components):
+        return [-OUTSIDE_LIMITS]
+    if not prices_within_limits(prices):
+        return [-OUTSIDE_LIMITS]
+    bound = quantity * unit_worth(low, high, prices) - total_gain(components, prices)
+    best = best_candidate(quantity, low, high, components)
+    tight = 1 if best is not None and best[1][0] == bound * best[0] else 0
+    return [tight, bound, 1]
 
 
 def request_within_limits(quantity, low, high, components):
@@ -70,6 +78,13 @@ def blend_within_limits(den, components, blend):
     return all([within(amount, MOST_IN_BLEND) for amount in blend])
 
 
+def prices_within_limits(prices):
+    """Tell whether there are the three prices, each valid."""
+    if len(prices) != 3:
+        return False
+    return within(abs(prices[0]), MOST_PRICE) and all([within(price, MOST_PRICE) for price in prices[1:]])
+
+
 def within(number, most):
     """Tell whether a number lies from 0 to the greatest one allowed."""
     return 0 <= number <= most
@@ -84,6 +99,18 @@ def is_feasible(quantity, low, high, den, components, blend):
         return False
     total = weighted_sum(blend, components[2::3])
     return den * low * quantity <= total <= den * high * quantity
+
+
+def best_candidate(quantity, low, high, components):
+    """Give the cheapest blend as its den and, over that, its cost and its amounts; None if there is none."""
+    costs = components[1::3]
+    best = None
+    for den, blend in basic_candidates(quantity, low, high, components):
+        if is_feasible(quantity, low, high, den, components, blend):
+            ranked = (den, [weighted_sum(blend, costs)] + blend)
+            if best is None or comes_before(ranked, best):
+                best = ranked
+    return best
 
 
 def basic_candidates(quantity, low, high, components):
@@ -143,6 +170,19 @@ def two_made_up(quantity, total, corner, properties):
 def comes_before(ranked, other):
     """Tell whether the cost, or at the same cost the first differing amount, is smaller."""
     return [number * other[0] for number in ranked[1]] < [number * ranked[0] for number in other[1]]
+
+
+def total_gain(components, prices):
+    """Sum up the gain of each component times its available amount."""
+    gains = []
+    for cost, own_property in zip(components[1::3], components[2::3]):
+        gains.append(max(0, unit_worth(own_property, own_property, prices) - cost))
+    return weighted_sum(components[0::3], gains)
+
+
+def unit_worth(low, high, prices):
+    """Give what a unit is worth: low at the price of the lower bound, high at that of the upper one."""
+    return prices[0] + prices[1] * low - prices[2] * high
 
 
 def weighted_sum(amounts, weights):

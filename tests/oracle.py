@@ -3,6 +3,8 @@
 from fractions import Fraction
 from itertools import combinations, product
 
+GREATEST_NUMBER = 4294967295
+
 
 def triples(components):
     return [tuple(components[k:k + 3]) for k in range(0, len(components), 3)]
@@ -73,6 +75,42 @@ def checked(quantity, low, high, den, components, blend):
     amounts = [Fraction(x, den) for x in blend]
     answer = [1 if feasible(quantity, low, high, components, amounts) else 0]
     return answer + pairs([cost_of(amounts, components), property_total_of(amounts, components)])
+
+
+def gain(cost, a, prices):
+    unit_price, low_price, high_price = prices
+    return max(unit_price + low_price * a - high_price * a - cost, 0)
+
+
+def bounded(quantity, low, high, components, prices):
+    """What dual_bound is to answer to arguments within their limits."""
+    unit_price, low_price, high_price = prices
+    bound = unit_price * quantity + low_price * low * quantity - high_price * high * quantity
+    bound -= sum(gain(cost, a, prices) * most for most, cost, a in triples(components))
+    is_tight = cheapest(quantity, low, high, components)[:3] == [0, bound, 1]
+    return [int(is_tight), bound, 1]
+
+
+def requests_at_limits():
+    """Requests at each limit that every operation looks at first, each with whether it is within."""
+    for quantity in (0, 1, 98, 99, 100, 101, GREATEST_NUMBER):
+        yield (quantity, 0, 99, [50, 1, 7, 50, 2, 8]), quantity <= 99
+    for low, high in ((0, 0), (0, 99), (98, 99), (99, 99), (3, 3)):
+        yield (1, low, high, [5, 1, 3]), True
+    for low, high in ((0, 100), (99, 100), (100, 100), (0, GREATEST_NUMBER), (GREATEST_NUMBER, GREATEST_NUMBER)):
+        yield (1, low, high, [5, 1, 3]), False
+    for low, high in ((1, 0), (4, 3), (99, 98), (100, 99), (GREATEST_NUMBER, 0)):
+        yield (1, low, high, [5, 1, 3]), False
+        yield (0, low, high, []), False
+    for count in range(1, 5):
+        for place in range(3 * count):
+            most = (50, 99, 99)[place % 3]
+            for number in (0, most, most + 1, GREATEST_NUMBER):
+                components = [1, 1, 1] * count
+                components[place] = number
+                yield (1, 0, 99, components), number <= most
+    for length in range(16):
+        yield (0, 0, 0, [0] * length), length in (0, 3, 6, 9, 12)
 
 
 def pairs(numbers):
