@@ -5,6 +5,7 @@ every sum and every comparison is exact.
 """
 
 # An error is answered as its code below 0.
+NO_SUCH_COMPONENT = 2
 OUTSIDE_LIMITS = 22
 NOT_FEASIBLE = 33
 
@@ -51,6 +52,19 @@ def dual_bound(quantity, low, high, components, prices):
     best = best_candidate(quantity, low, high, components)
     tight = 1 if best is not None and best[1][0] == bound * best[0] else 0
     return [tight, bound, 1]
+
+
+def cost_without_component(quantity, low, high, index, components):
+    """Answer 0 and the cost of the cheapest blend if the component didn't exist, or an error."""
+    if not request_within_limits(quantity, low, high, components):
+        return [-OUTSIDE_LIMITS]
+    if 3 * index >= len(components):
+        return [-NO_SUCH_COMPONENT]
+    others = components[:3 * index] + components[3 * index + 3:]
+    best = best_candidate(quantity, low, high, others)
+    if best is None:
+        return [-NOT_FEASIBLE]
+    return [0] + rational_numbers(best[0], best[1][:1])
 
 
 def request_within_limits(quantity, low, high, components):

@@ -91,6 +91,15 @@ def bounded(quantity, low, high, components, prices):
     return [int(is_tight), bound, 1]
 
 
+def without(quantity, low, high, index, components):
+    """What cost_without_component is to answer to all arguments but the index within their limits."""
+    parts = triples(components)
+    if index >= len(parts):
+        return [-2]
+    others = [number for k, part in enumerate(parts) if k != index for number in part]
+    return cheapest(quantity, low, high, others)[:3]
+
+
 def requests_at_limits():
     """Requests at each limit that every operation looks at first, each with whether it is within."""
     for quantity in (0, 1, 98, 99, 100, 101, GREATEST_NUMBER):
