@@ -67,13 +67,27 @@ def cost_without_component(quantity, low, high, index, components):
     return [0] + rational_numbers(best[0], best[1][:1])
 
 
+def max_quantity(low, high, components):
+    """Answer the greatest quantity for which a blend is feasible, or an error."""
+    if not bounds_within_limits(low, high) or not components_within_limits(components):
+        return [-OUTSIDE_LIMITS]
+    quantity = MOST_QUANTITY
+    # This ends at 0 at the latest, where the blend of nothing is feasible.
+    while not can_be_blended(quantity, low, high, components):
+        quantity -= 1
+    return [quantity]
+
+
 def request_within_limits(quantity, low, high, components):
-    """Tell whether the arguments that every operation looks at first are valid."""
-    if not within(quantity, MOST_QUANTITY):
-        return False
-    if not within(low, MOST_BOUND) or not within(high, MOST_BOUND) or low > high:
+    """Tell whether a quantity, the bounds and the components are all valid."""
+    if not within(quantity, MOST_QUANTITY) or not bounds_within_limits(low, high):
         return False
     return components_within_limits(components)
+
+
+def bounds_within_limits(low, high):
+    """Tell whether both bounds are valid, and the lower one not above the upper one."""
+    return 0 <= low <= high <= MOST_BOUND
 
 
 def components_within_limits(components):
@@ -184,6 +198,31 @@ def two_made_up(quantity, total, corner, properties):
 def comes_before(ranked, other):
     """Tell whether the cost, or at the same cost the first differing amount, is smaller."""
     return [number * other[0] for number in ranked[1]] < [number * ranked[0] for number in other[1]]
+
+
+def can_be_blended(quantity, low, high, components):
+    """Tell whether a blend is feasible: all property totals between the two extreme ones can be blended."""
+    totals = extreme_totals(quantity, components)
+    return totals is not None and totals[0] <= high * quantity and totals[1] >= low * quantity
+
+
+def extreme_totals(quantity, components):
+    """Give the smallest and the greatest property total of the quantity; None if there isn't enough."""
+    if sum(components[0::3]) < quantity:
+        return None
+    parts = sorted([(own_property, most) for most, own_property in zip(components[0::3], components[2::3])])
+    return [total_of_first(quantity, parts), total_of_first(quantity, sorted(parts, reverse=True))]
+
+
+def total_of_first(quantity, parts):
+    """Sum up the property total of the quantity, each part used up before the next one is begun."""
+    total = 0
+    missing = quantity
+    for own_property, most in parts:
+        taken = min(most, missing)
+        total += own_property * taken
+        missing -= taken
+    return total
 
 
 def total_gain(components, prices):

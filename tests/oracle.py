@@ -100,26 +100,74 @@ def without(quantity, low, high, index, components):
     return cheapest(quantity, low, high, others)[:3]
 
 
-def requests_at_limits():
-    """Requests at each limit that every operation looks at first, each with whether it is within."""
+def property_totals(components):
+    """The smallest and the greatest property total of each quantity that can be put together.
+
+    Whole amounts are enough for these: of two amounts that are not whole, one can
+    grow at the other's cost until one of them is, in the direction that helps.
+    """
+    parts = triples(components)
+    found = {}
+    for amounts in product(*[range(most + 1) for most, _, _ in parts]):
+        total = sum(x * a for x, (_, _, a) in zip(amounts, parts))
+        smallest, greatest = found.get(sum(amounts), (total, total))
+        found[sum(amounts)] = (min(smallest, total), max(greatest, total))
+    return found
+
+
+def in_reach(quantity, low, high, totals):
+    """Whether there is enough of all, and the bounds leave room among the property totals."""
+    if quantity not in totals:
+        return False
+    smallest, greatest = totals[quantity]
+    return smallest <= high * quantity and greatest >= low * quantity
+
+
+def greatest_quantity(low, high, components):
+    """What max_quantity is to answer to arguments within their limits."""
+    totals = property_totals(components)
+    return [max(quantity for quantity in range(100) if in_reach(quantity, low, high, totals))]
+
+
+def quantities_at_limits():
+    """Quantities at the limit, each with whether it is within."""
     for quantity in (0, 1, 98, 99, 100, 101, GREATEST_NUMBER):
-        yield (quantity, 0, 99, [50, 1, 7, 50, 2, 8]), quantity <= 99
-    for low, high in ((0, 0), (0, 99), (98, 99), (99, 99), (3, 3)):
-        yield (1, low, high, [5, 1, 3]), True
-    for low, high in ((0, 100), (99, 100), (100, 100), (0, GREATEST_NUMBER), (GREATEST_NUMBER, GREATEST_NUMBER)):
-        yield (1, low, high, [5, 1, 3]), False
-    for low, high in ((1, 0), (4, 3), (99, 98), (100, 99), (GREATEST_NUMBER, 0)):
-        yield (1, low, high, [5, 1, 3]), False
-        yield (0, low, high, []), False
+        yield quantity, quantity <= 99
+
+
+def bounds_at_limits():
+    """Bounds at each limit, each two with whether they are within."""
+    for bounds in ((0, 0), (0, 99), (98, 99), (99, 99), (3, 3)):
+        yield bounds, True
+    for bounds in ((0, 100), (99, 100), (100, 100), (0, GREATEST_NUMBER), (GREATEST_NUMBER, GREATEST_NUMBER),
+                   (1, 0), (4, 3), (99, 98), (100, 99), (GREATEST_NUMBER, 0)):
+        yield bounds, False
+
+
+def components_at_limits():
+    """Components at each limit, each list with whether it is within."""
     for count in range(1, 5):
         for place in range(3 * count):
             most = (50, 99, 99)[place % 3]
             for number in (0, most, most + 1, GREATEST_NUMBER):
                 components = [1, 1, 1] * count
                 components[place] = number
-                yield (1, 0, 99, components), number <= most
+                yield components, number <= most
     for length in range(16):
-        yield (0, 0, 0, [0] * length), length in (0, 3, 6, 9, 12)
+        for number in (0, 1):
+            yield [number] * length, length in (0, 3, 6, 9, 12)
+
+
+def requests_at_limits():
+    """Requests at each limit of a quantity, two bounds and components, each with whether it is within."""
+    for quantity, valid in quantities_at_limits():
+        yield (quantity, 0, 99, [50, 1, 7, 50, 2, 8]), valid
+    for (low, high), valid in bounds_at_limits():
+        yield (1, low, high, [5, 1, 3]), valid
+        yield (0, low, high, []), valid
+    for components, valid in components_at_limits():
+        yield (0, 0, 0, components), valid
+        yield (1, 0, 99, components), valid
 
 
 def pairs(numbers):
@@ -131,13 +179,3 @@ def pairs(numbers):
 
 def as_fractions(numbers):
     return [Fraction(numbers[k], numbers[k + 1]) for k in range(0, len(numbers), 2)]
-
-
-def extreme_property_total(quantity, components, greatest):
-    """Smallest or greatest property total of a choice that adds up, or None if too little is there."""
-    total, missing = 0, quantity
-    for most, _, a in sorted(triples(components), key=lambda part: part[2], reverse=greatest):
-        taken = min(most, missing)
-        total += taken * a
-        missing -= taken
-    return total if missing == 0 else None

@@ -287,10 +287,9 @@ class Requirements(unittest.TestCase):
 
     def test_feasible_just_if_enough_is_there_and_the_property_is_in_reach(self):
         for components in self.instances():
+            totals = oracle.property_totals(components)
             for quantity, low, high in ((0, 2, 2), (3, 2, 4), (4, 5, 6), (6, 0, 1)):
-                smallest = oracle.extreme_property_total(quantity, components, False)
-                greatest = oracle.extreme_property_total(quantity, components, True)
-                within = smallest is not None and smallest <= high * quantity and greatest >= low * quantity
+                within = oracle.in_reach(quantity, low, high, totals)
                 self.assertEqual(cheapest_blend(quantity, low, high, components) != [-33], within)
 
 
