@@ -74,8 +74,18 @@ def max_quantity(low, high, components):
     quantity = MOST_QUANTITY
     # This ends at 0 at the latest, where the blend of nothing is feasible.
     while not can_be_blended(quantity, low, high, components):
-        quantity -= 1
+        quantity = quantity - 1
     return [quantity]
+
+
+def property_range(quantity, components):
+    """Answer the smallest and the greatest property total of the quantity, or an error."""
+    if not within(quantity, MOST_QUANTITY) or not components_within_limits(components):
+        return [-OUTSIDE_LIMITS]
+    totals = extreme_totals(quantity, components)
+    if totals is None:
+        return [-NOT_FEASIBLE]
+    return totals
 
 
 def request_within_limits(quantity, low, high, components):
@@ -220,8 +230,8 @@ def total_of_first(quantity, parts):
     missing = quantity
     for own_property, most in parts:
         taken = min(most, missing)
-        total += own_property * taken
-        missing -= taken
+        total = total + own_property * taken
+        missing = missing - taken
     return total
 
 

@@ -129,6 +129,12 @@ def greatest_quantity(low, high, components):
     return [max(quantity for quantity in range(100) if in_reach(quantity, low, high, totals))]
 
 
+def ranged(quantity, components):
+    """What property_range is to answer to arguments within their limits."""
+    totals = property_totals(components)
+    return list(totals[quantity]) if quantity in totals else [-33]
+
+
 def quantities_at_limits():
     """Quantities at the limit, each with whether it is within."""
     for quantity in (0, 1, 98, 99, 100, 101, GREATEST_NUMBER):

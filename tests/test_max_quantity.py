@@ -1,7 +1,7 @@
 import unittest
 from itertools import product
 
-from meanblend.blending import check_blend, cheapest_blend, max_quantity
+from meanblend.blending import check_blend, max_quantity
 from tests import oracle
 
 TWO = [9, 5, 1, 9, 7, 5]
@@ -222,14 +222,6 @@ class AgainstTheOracle(unittest.TestCase):
                 found = [quantity for quantity in range(100)
                          if oracle.basic_blends(quantity, low, high, components)]
                 self.assertEqual(max_quantity(low, high, components), found[-1:])
-
-    def test_cheapest_blend_is_answered_up_to_this_quantity(self):
-        for components in self.instances(range(3)):
-            for low, high in ((0, 2), (2, 3), (3, 3), (4, 9)):
-                most = max_quantity(low, high, components)[0]
-                for quantity in range(100):
-                    answer = cheapest_blend(quantity, low, high, components)
-                    self.assertEqual(answer != [-33], quantity <= most)
 
     def test_no_blend_in_halves_or_thirds_has_a_greater_quantity(self):
         for components in self.instances([2]):
